@@ -195,19 +195,23 @@ func sineInWords(h int) impl.Span {
 	return span(rowInWords(unit, arc.High, 1).Low, min(unit, rowInWords(unit, arc.Low, 1).High))
 }
 
-// tanInWords divides all ends by fractions.
+// divInWords divides all ends by fractions.
+func divInWords(s impl.Span, u impl.Span) impl.Span {
+	var parts []*big.Rat
+	for _, x := range ends(s) {
+		for _, y := range ends(u) {
+			parts = append(parts, new(big.Rat).Quo(new(big.Rat).Mul(whole(x), whole(unit)), whole(y)))
+		}
+	}
+	return around(parts...)
+}
+
 func tanInWords(a int) (impl.Span, bool) {
 	sine, cos := sineInWords(2*a), sineInWords(2*a+2*quart)
 	if cos.Low <= 0 && cos.High >= 0 {
 		return impl.Span{}, false
 	}
-	var parts []*big.Rat
-	for _, x := range ends(sine) {
-		for _, y := range ends(cos) {
-			parts = append(parts, new(big.Rat).Quo(new(big.Rat).Mul(whole(x), whole(unit)), whole(y)))
-		}
-	}
-	s := around(parts...)
+	s := divInWords(sine, cos)
 	if s.Low < -spanMax || s.High > spanMax {
 		return impl.Span{}, false
 	}
