@@ -799,13 +799,33 @@ func TestSpotTextIsThatOfBothAngles(t *testing.T) {
 	}
 }
 
-// No call leaves anything for the next one, or for one that runs at the same time.
+// saysTheSameAgain holds that no call leaves anything for the next one, or for one that runs at the same time.
+func saysTheSameAgain[T comparable](t *testing.T, ask func() []T) {
+	t.Helper()
+	first := ask()
+	answers := make(chan []T)
+	for range 4 {
+		go func() { answers <- ask() }()
+	}
+	for range 4 {
+		again := <-answers
+		if len(again) != len(first) {
+			t.Fatalf("asked again, there are %d answers, not %d", len(again), len(first))
+		}
+		for i := range again {
+			if again[i] != first[i] {
+				t.Errorf("asked again, %d is %v, not %v", i, again[i], first[i])
+			}
+		}
+	}
+}
+
 func TestSpotsAgainAndAtTheSameTime(t *testing.T) {
 	type answer struct {
 		square impl.Span
 		dist   impl.Fan
 	}
-	ask := func() []answer {
+	saysTheSameAgain(t, func() []answer {
 		var out []answer
 		eachSpotPair(fewSpots(), func(p impl.Spot, q impl.Spot) {
 			square, _ := impl.SpotSquare(p, q)
@@ -813,19 +833,7 @@ func TestSpotsAgainAndAtTheSameTime(t *testing.T) {
 			out = append(out, answer{square, dist})
 		})
 		return out
-	}
-	first := ask()
-	answers := make(chan []answer)
-	for range 4 {
-		go func() { answers <- ask() }()
-	}
-	for range 4 {
-		for i, again := range <-answers {
-			if again != first[i] {
-				t.Errorf("asked again, %d is %v, not %v", i, again, first[i])
-			}
-		}
-	}
+	})
 }
 
 func TestOnePlaceThatIsNone(t *testing.T) {

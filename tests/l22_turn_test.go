@@ -365,9 +365,8 @@ func TestPromise84AWholeTurnMoreChangesNothing(t *testing.T) {
 	})
 }
 
-// No call leaves anything for the next one, or for one that runs at the same time.
 func TestTurnsAgainAndAtTheSameTime(t *testing.T) {
-	ask := func() []impl.Span {
+	saysTheSameAgain(t, func() []impl.Span {
 		var out []impl.Span
 		eachTurn(func(p wayPlace, a int) {
 			up, right, _ := impl.TurnBy(p.up, p.right, a)
@@ -375,17 +374,7 @@ func TestTurnsAgainAndAtTheSameTime(t *testing.T) {
 			out = append(out, up, right, long)
 		})
 		return out
-	}
-	first := ask()
-	answers := make(chan []impl.Span)
-	for range 4 {
-		go func() { answers <- ask() }()
-	}
-	for range 4 {
-		if again := <-answers; !slices.Equal(again, first) {
-			t.Error("asked again, there are other answers")
-		}
-	}
+	})
 }
 
 // beyondHalf are beyond the edge, by one or by far; squares of some of them would be small again, as they leave an int.

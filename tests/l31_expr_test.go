@@ -1191,26 +1191,15 @@ func TestExprIsNotWrittenInto(t *testing.T) {
 	}
 }
 
-// No call leaves anything for the next one, or for one that runs at the same time.
 func TestExprsAgainAndAtTheSameTime(t *testing.T) {
 	exprs := okExprs()
-	ask := func() []exprAnswer {
+	saysTheSameAgain(t, func() []exprAnswer {
 		var out []exprAnswer
 		for _, e := range exprs {
 			out = append(out, exprAnswers(e))
 		}
 		return out
-	}
-	first := ask()
-	answers := make(chan []exprAnswer)
-	for range 4 {
-		go func() { answers <- ask() }()
-	}
-	for range 4 {
-		if again := <-answers; !slices.Equal(again, first) {
-			t.Error("asked again, there are other answers")
-		}
-	}
+	})
 }
 
 func TestNothingRunsOnBehindTheAnswer(t *testing.T) {
